@@ -1,0 +1,1 @@
+"""Figuretape: long numbers as rows of figures in any base."""
