@@ -147,12 +147,12 @@ class LongTapes(Case):
                     self.check_both_ways(base, tape, long_tape(base, length - 1), 1)
                     self.check_both_ways(base, tape, [], 1)
 
-    def test_five_hundred_figures_that_differ_at_one_place(self):
+    def test_long_tapes_that_differ_at_one_place(self):
         for base in BASES:
-            for place in (0, 1, 250, 498):
-                less, more = long_tape(base, 500), long_tape(base, 500)
+            for length, place in ((500, 0), (500, 1), (500, 250), (500, 498), (650, 0), (650, 648)):
+                less, more = long_tape(base, length), long_tape(base, length)
                 less[place], more[place] = 0, 1
-                with self.subTest(base=base, place=place):
+                with self.subTest(base=base, length=length, place=place):
                     self.check_both_ways(base, less, more, -1)
 
     def test_five_hundred_figures_that_differ_at_the_highest_place(self):
