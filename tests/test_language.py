@@ -1,6 +1,7 @@
 """That the package keeps to its small part of Python.
 
-It sees the rules that can be told from the form of a file: files, imports, statements, names, sizes, signs, words.
+It sees the rules that can be told from the form of a file: files, imports, statements, names, sizes, signs, words,
+what is bound twice, and what is walked on the spot.
 With the imports and Python's own names held, no clock, chance or file can be reached (point [1]).
 """
 
@@ -27,6 +28,13 @@ WORDS = re.compile(
     r"\b(type|typing|typing_extensions|enum|Enum|IntEnum|StrEnum|Flag|IntFlag|Generic|Protocol|ABC|ABCMeta|namedtuple|"
     r"NamedTuple|TypedDict|TYPE_CHECKING|abstractmethod)\b|dataclass|overload|contextmanager"
 )
+UNUSED_NAMES = set("register mro elements open input version_info with_traceback add_note format format_map".split())
+WALKED = set("zip enumerate reversed range .items .keys .values".split())
+WALKERS = set("list tuple dict sorted sum any all enumerate zip .join".split())
+KEYWORDS = {
+    "sorted": ("key", "reverse"), "min": ("key", "default"), "max": ("key", "default"), "sum": ("start",),
+    "enumerate": ("start",), "zip": ("strict",),
+}
 FORMS = set(
     "Module FunctionDef ClassDef arguments arg Assign AugAssign If While For Return Break Continue Pass Raise Try "
     "ExceptHandler Expr ImportFrom alias Constant List Tuple Dict Set Name Attribute Subscript Slice Call keyword "
@@ -122,6 +130,93 @@ def name_faults(node):
     return faults
 
 
+# Names that are bound in a def: its parameters and whatever is stored to.
+def local_names(tree):
+    names = [node.arg for node in ast.walk(tree) if isinstance(node, ast.arg)]
+    for top in tree.body:
+        if isinstance(top, (ast.FunctionDef, ast.ClassDef)):
+            found = [node for node in ast.walk(top) if isinstance(node, ast.Name)]
+            names += [node.id for node in found if isinstance(node.ctx, ast.Store)]
+    return names
+
+
+def binding_faults(tree):
+    imported = [name.asname or name.name for row in tree.body if isinstance(row, ast.ImportFrom) for name in row.names]
+    classes = [row.name for row in tree.body if isinstance(row, ast.ClassDef)]
+    defs = [row.name for row in tree.body if isinstance(row, ast.FunctionDef)]
+    given = [row.targets[0].id for row in tree.body if isinstance(row, ast.Assign)]
+    bound = imported + classes + defs + given
+    faults = [f"L15: {name} is bound twice at the top" for name in set(bound) if bound.count(name) > 1]
+    return faults + [f"L15: the local {name}" for name in local_names(tree) if name in imported + classes]
+
+
+def value_faults(node):
+    faults = []
+    if isinstance(node, ast.Compare) and any(isinstance(sign, (ast.Is, ast.IsNot)) for sign in node.ops):
+        sides = [node.left] + node.comparators
+        if not any(isinstance(side, ast.Constant) and side.value in (None, True, False) for side in sides):
+            faults.append("L20: is")
+    if getattr(node, "annotation", None) is not None or getattr(node, "returns", None) is not None:
+        faults.append("L21: an annotation")
+    if isinstance(node, ast.BinOp) and isinstance(node.op, ast.Pow):
+        if not (isinstance(node.right, ast.Constant) and 0 <= node.right.value <= 64):
+            faults.append("L27: an exponent that is not written")
+    if isinstance(node, ast.Constant) and isinstance(node.value, str) and "%" in node.value:
+        faults.append("L27: the sign for the rest within a text")
+    if isinstance(node, (ast.Name, ast.Attribute)):
+        if (node.id if isinstance(node, ast.Name) else node.attr) in UNUSED_NAMES:
+            faults.append("L17: a name that is not used")
+    return faults
+
+
+def called_name(node):
+    if isinstance(node, ast.Call) and isinstance(node.func, ast.Name):
+        return node.func.id
+    if isinstance(node, ast.Call) and isinstance(node.func, ast.Attribute):
+        return "." + node.func.attr
+    return ""
+
+
+# What is only walked, and the sets, must stand within something that takes them on the spot.
+def walk_faults(tree):
+    allowed = set()
+    for node in ast.walk(tree):
+        if isinstance(node, (ast.For, ast.comprehension)):
+            allowed.add((id(node.iter), "walk"))
+        if called_name(node) in WALKERS or called_name(node) in ("min", "max") and len(node.args) == 1:
+            allowed |= {(id(part), "walk") for part in node.args[:1]}
+        if called_name(node) in ("sorted", "len"):
+            allowed |= {(id(part), "set") for part in node.args[:1]}
+        if isinstance(node, ast.Compare):
+            allowed |= {(id(part), "set") for part in [node.left] + node.comparators}
+    faults = []
+    for node in ast.walk(tree):
+        if called_name(node) in WALKED and (id(node), "walk") not in allowed:
+            faults.append("L23: what is not walked at once")
+        if (called_name(node) == "set" or isinstance(node, ast.Set)) and (id(node), "set") not in allowed:
+            faults.append("L24: a set that is kept")
+    return faults
+
+
+def keyword_faults(node):
+    if not isinstance(node, ast.Call) or called_name(node) not in OWN_NAMES:
+        return []
+    allowed = KEYWORDS.get(called_name(node), ())
+    return [f"L22: the keyword {word.arg}" for word in node.keywords if word.arg not in allowed]
+
+
+# The files that each file draws from, the ones further off too.
+def drawn_from(texts):
+    near = {}
+    for name, text in texts.items():
+        rows = [row for row in ast.parse(text).body if isinstance(row, ast.ImportFrom)]
+        near[name] = {row.module.split(".")[-1] for row in rows}
+    far = {name: set(names) for name, names in near.items()}
+    for _ in near:
+        far = {name: names.union(*(far.get(each, set()) for each in names)) for name, names in far.items()}
+    return far
+
+
 def method_faults(tree):
     own = {node.name for node in ast.walk(tree) if isinstance(node, ast.FunctionDef)} | METHODS | TWO_UNDERSCORES
     calls = [node.func for node in ast.walk(tree) if isinstance(node, ast.Call)]
@@ -132,8 +227,9 @@ def method_faults(tree):
 def faults_of(text):
     tree = ast.parse(text)
     faults = text_faults(text) + import_faults(tree) + top_faults(tree) + method_faults(tree)
+    faults += binding_faults(tree) + walk_faults(tree)
     for node in ast.walk(tree):
-        faults += form_faults(node) + def_faults(node) + name_faults(node)
+        faults += form_faults(node) + def_faults(node) + name_faults(node) + value_faults(node) + keyword_faults(node)
     return faults
 
 
@@ -151,12 +247,29 @@ class ThePackage(unittest.TestCase):
                 self.assertEqual(faults_of(path.read_bytes().decode("utf-8")), [])
 
 
+    def test_no_two_files_draw_from_one_another(self):
+        texts = {path.stem: path.read_text("utf-8") for path in PACKAGE.glob("*.py")}
+        for name, names in drawn_from(texts).items():
+            with self.subTest(name=name):
+                self.assertNotIn(name, names)
+
+
 class TheRules(unittest.TestCase):
+    def test_files_that_draw_from_one_another_are_found(self):
+        texts = {
+            "one": "from figuretape.two import a\n", "two": "from figuretape.three import b\n",
+            "three": "from figuretape.one import c\n", "four": "from figuretape.one import c\n",
+        }
+        far = drawn_from(texts)
+        self.assertEqual([name for name in far if name in far[name]], ["one", "two", "three"])
+
     def test_code_within_the_rules_has_no_fault(self):
         good = (
             '"""Words."""\n\nfrom figuretape.errors import BadBase\n\nLEAST = 2\n\n\n'
             "def checked(base, found=None):\n    if base < LEAST:\n        raise BadBase('words')\n"
-            "    rows = [row for row in range(base) if row % 2 == 0]\n    rows.append(base)\n    return rows\n"
+            "    rows = [row for row in range(base) if row % 2 == 0]\n    rows.append(base ** 2)\n"
+            "    for row in reversed(rows):\n        if row in set(rows) and found is None:\n"
+            "            found = max(row, LEAST)\n    return (list(enumerate(rows, start=1)), sorted(set(rows)))\n"
         )
         self.assertEqual(faults_of(good), [])
 
@@ -172,6 +285,16 @@ class TheRules(unittest.TestCase):
             "def f(x):\n    for y in x:\n        pass\n    else:\n        pass\n", "def f(_x):\n    return 1\n",
             "def f(id):\n    return id\n", "def sum(x):\n    return x\n", "def f(x):\n    max = x\n    return max\n",
             "class C:\n    x = 1\n", "class C(A, B):\n    pass\n", "# the type of it\n", "# \u00e9\n", "x = 1\t\n",
+            "from figuretape.errors import BadBase\n\n\ndef f(BadBase):\n    return BadBase\n",
+            "from figuretape.tapes import order\n\n\ndef f(x):\n    order = x\n    return order\n",
+            "x = 1\nx = 2\n", "def f(x):\n    return x\n\n\ndef f(x):\n    return 1\n",
+            "def f(x, y):\n    return x is y\n", "def f(x: int):\n    return x\n", "def f(x) -> int:\n    return x\n",
+            "def f(n):\n    return 2 ** n\n", "def f(n):\n    return n ** 65\n", "def f():\n    return '%d'\n",
+            "def f(x):\n    y = reversed(x)\n    return y\n", "def f(x):\n    return zip(x, reversed(x))\n",
+            "def f(x):\n    return [y for y in zip(x, reversed(x))]\n", "def f(n):\n    return reversed(range(n))\n",
+            "def f(x):\n    return x.items()\n", "def f(x):\n    y = set(x)\n    return y\n",
+            "def f(x):\n    return [y for y in set(x)]\n", "def f(x):\n    return x.format\n",
+            "def f(x):\n    return int(x, base=2)\n", "def f(x):\n    return chr(x)\n",
             "# " + "x" * 119 + "\n", "x = 1\n" * 401, "def f(x):\n" + "    x = 1\n" * 40,
         )
         for text in bad:

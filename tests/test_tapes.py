@@ -4,32 +4,12 @@ import unittest
 
 from figuretape.errors import BadBase, BadTape
 from figuretape.tapes import compared
-
-GREAT_BASE = 9999999999
-BASES = (2, 3, 10, 60, GREAT_BASE)
+from tape_cases import BAD_BASES, BASES, BEYOND_BASES, GREAT_BASE, Case, long_tape, tape_of, worth
 
 
-def worth(base, tape):
-    return sum(figure * base ** place for place, figure in enumerate(tape))
-
-
-def tape_of(base, number):
-    tape = []
-    while number > 0:
-        number, figure = divmod(number, base)
-        tape.append(figure)
-    return tape
-
-
-def long_tape(base, length):
-    tape = [(place * place + 7 * place + 1) % base for place in range(length)]
-    tape[-1] = 1
-    return tape
-
-
-class Case(unittest.TestCase):
+class CompareCase(Case):
     def check_answer(self, base, one, two, answer):
-        given = compared(base, one, two)
+        given = self.called(compared, base, one, two)
         self.assertIs(type(given), int)
         self.assertEqual(given, answer)
 
@@ -38,21 +18,14 @@ class Case(unittest.TestCase):
         self.check_answer(base, one, two, answer)
         self.check_answer(base, two, one, -answer)
 
-    def check_refused(self, error, base, one, two):
-        one_before, two_before = list(one), list(two)
-        with self.assertRaises(error) as caught:
-            compared(base, one, two)
-        self.assertIs(type(caught.exception), error)
-        self.assertEqual((one, two), (one_before, two_before))
-
     def check_bad_tape_on_either_side(self, base, tape):
         for good in ([], [1], [0, 1], [1] * 9):
-            self.check_refused(BadTape, base, tape, good)
-            self.check_refused(BadTape, base, good, tape)
-        self.check_refused(BadTape, base, tape, tape)
+            self.check_refused(BadTape, compared, base, tape, good)
+            self.check_refused(BadTape, compared, base, good, tape)
+        self.check_refused(BadTape, compared, base, tape, tape)
 
 
-class Compared(Case):
+class Compared(CompareCase):
     def test_the_example_of_the_document(self):
         self.assertEqual(worth(10, [0, 5, 3]), 350)
         self.check_both_ways(10, [0, 5, 3], [9, 4, 3], 1)
@@ -137,7 +110,7 @@ class Compared(Case):
         self.check_both_ways(GREAT_BASE, [999999999], [1000000000], -1)
 
 
-class LongTapes(Case):
+class LongTapes(CompareCase):
     def test_five_hundred_figures_and_somewhat_beyond(self):
         for base in BASES:
             for length in (499, 500, 501, 650):
@@ -168,32 +141,32 @@ class LongTapes(Case):
                 self.check_both_ways(base, less, more, -1)
 
     def test_bases_somewhat_beyond_ten_figures(self):
-        for base in (10 ** 10, 10 ** 10 + 1, 10 ** 13, 2 ** 64 + 1):
+        for base in BEYOND_BASES:
             with self.subTest(base=base):
                 self.check_both_ways(base, [base - 2, base - 1], [base - 1, base - 1], -1)
                 self.check_bad_tape_on_either_side(base, [base])
 
 
-class BadBases(Case):
+class BadBases(CompareCase):
     def test_bases_below_two(self):
-        for base in (1, 0, -1, -2, -10, -GREAT_BASE, -10 ** 5000):
+        for base in BAD_BASES:
             for one, two in (([], []), ([1], []), ([], [1]), ([1], [1]), ([0, 1], [1, 1])):
                 with self.subTest(one=one, two=two):
-                    self.check_refused(BadBase, base, one, two)
+                    self.check_refused(BadBase, compared, base, one, two)
 
     def test_a_bad_base_goes_ahead_of_a_bad_tape(self):
         for base in (1, 0, -1, -10):
             for bad in ([0], [1, 0], [-1], [5], [base], [base - 1, 1]):
                 with self.subTest(base=base, bad=bad):
-                    self.check_refused(BadBase, base, bad, [])
-                    self.check_refused(BadBase, base, [], bad)
-                    self.check_refused(BadBase, base, bad, bad)
+                    self.check_refused(BadBase, compared, base, bad, [])
+                    self.check_refused(BadBase, compared, base, [], bad)
+                    self.check_refused(BadBase, compared, base, bad, bad)
 
     def test_two_is_a_base(self):
         self.check_both_ways(2, [0, 1], [1, 1], -1)
 
 
-class BadTapes(Case):
+class BadTapes(CompareCase):
     def test_a_number_that_is_no_figure_at_each_place(self):
         for base in BASES:
             for number in (-1, -base, -base - 1, base, base + 1, 2 * base, base * base):
@@ -221,9 +194,9 @@ class BadTapes(Case):
                     self.check_bad_tape_on_either_side(base, tape)
 
     def test_a_bad_tape_is_refused_where_the_lengths_would_tell(self):
-        self.check_refused(BadTape, 10, [10], [1, 1, 1])
-        self.check_refused(BadTape, 10, [1, 1, 1], [10])
-        self.check_refused(BadTape, 10, [-1, 1, 1], [1])
+        self.check_refused(BadTape, compared, 10, [10], [1, 1, 1])
+        self.check_refused(BadTape, compared, 10, [1, 1, 1], [10])
+        self.check_refused(BadTape, compared, 10, [-1, 1, 1], [1])
 
     def test_a_bad_tape_of_five_hundred_figures(self):
         for base in BASES:
@@ -238,8 +211,8 @@ class BadTapes(Case):
 
     def test_a_tape_of_one_base_may_be_none_of_another(self):
         self.check_both_ways(60, [10, 59], [11, 59], -1)
-        self.check_refused(BadTape, 59, [10, 59], [11, 58])
-        self.check_refused(BadTape, 10, [1], [59])
+        self.check_refused(BadTape, compared, 59, [10, 59], [11, 58])
+        self.check_refused(BadTape, compared, 10, [1], [59])
 
     def test_the_greatest_figure_is_a_figure(self):
         for base in BASES:
@@ -247,7 +220,7 @@ class BadTapes(Case):
                 self.check_answer(base, [base - 1], [base - 1], 0)
 
 
-class NothingIsChanged(Case):
+class NothingIsChanged(CompareCase):
     def test_the_lists_are_the_same_after_a_comparison(self):
         pairs = (
             ([], []), ([1], []), ([], [0, 1]), ([0, 1], [1, 1]), ([1, 0, 1], [1, 0, 1]),
@@ -259,10 +232,10 @@ class NothingIsChanged(Case):
             self.assertEqual((one, two), (one_before, two_before))
 
     def test_the_lists_are_the_same_after_a_refusal(self):
-        self.check_refused(BadBase, 1, [1, 0], [0, 0, 0])
-        self.check_refused(BadTape, 10, [1, 0], [0, 0, 0])
-        self.check_refused(BadTape, 10, [3, 1], [5, 0, 0])
-        self.check_refused(BadTape, 10, [-1, 12], [0, 1])
+        self.check_refused(BadBase, compared, 1, [1, 0], [0, 0, 0])
+        self.check_refused(BadTape, compared, 10, [1, 0], [0, 0, 0])
+        self.check_refused(BadTape, compared, 10, [3, 1], [5, 0, 0])
+        self.check_refused(BadTape, compared, 10, [-1, 12], [0, 1])
 
 
 if __name__ == "__main__":
